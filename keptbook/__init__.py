@@ -1,0 +1,1 @@
+"""A book that keeps what was put."""
