@@ -1,7 +1,11 @@
 """The calls on a book, answered in their order."""
 
 from keptbook.calls import split_calls
-from keptbook.refusals import NO_RECORD, OUT_OF_RANGE
+from keptbook.digest import sum_of
+from keptbook.intake import take_entries
+from keptbook.layout import HEAD_BYTES, begins_as_head, salt_of
+from keptbook.limits import MOST_BODY_BYTES, MOST_BOOK_BYTES, is_name_length
+from keptbook.refusals import NO_HEAD, NO_RECORD, OUT_OF_RANGE, WRONG_HEAD_SUM
 from keptbook.volume import Volume
 
 NEW = 1
@@ -11,10 +15,16 @@ BACK = 4
 GET = 5
 NAMES = 6
 VERSION = 7
+BYTES = 8
+READ = 9
+ALIKE = 10
+SQUEEZE = 11
+SUM = 12
+STATE = 13
 
-MOST_NAME_BYTES = 64
-MOST_BODY_BYTES = 65536
 MOST_NAMES = 4096
+MOST_SHOWN_BYTES = 65536
+MOST_SUMMED_BYTES = 65536
 
 
 class UnknownCall(ValueError):
@@ -31,8 +41,13 @@ def answers(calls):
     return answered
 
 
-def is_name_length(number):
-    return 1 <= number <= MOST_NAME_BYTES
+def common_length(left, right):
+    count = 0
+    for one, other in zip(left, right):
+        if one != other:
+            break
+        count += 1
+    return count
 
 
 class Desk:
@@ -57,6 +72,18 @@ class Desk:
             return self.answer_names(numbers[0], numbers[1])
         if call.number == VERSION:
             return self.answer_version(numbers[0], numbers[1], lists[0])
+        if call.number == BYTES:
+            return self.answer_bytes(numbers[0], numbers[1])
+        if call.number == READ:
+            return self.answer_read(numbers[0], numbers[1], lists[0], lists[1])
+        if call.number == ALIKE:
+            return self.answer_alike(numbers[0], lists[0])
+        if call.number == SQUEEZE:
+            return [self.volume.squeeze()]
+        if call.number == SUM:
+            return self.answer_sum(numbers[0], lists[0])
+        if call.number == STATE:
+            return self.answer_state()
         raise UnknownCall(str(call.number))
 
     def answer_new(self, shut, salt, key):
@@ -92,12 +119,11 @@ class Desk:
     def answer_names(self, begin, most):
         if begin < 0 or not 0 <= most <= MOST_NAMES:
             return [OUT_OF_RANGE]
-        standing = self.volume.history.standing
-        answer = [len(standing)]
-        for name in sorted(standing)[begin:begin + most]:
-            record = standing[name]
-            answer.extend([record.kind, record.number, len(record.body), len(name)])
-            answer.extend(name)
+        records = self.volume.history.records()
+        answer = [len(records)]
+        for record in records[begin:begin + most]:
+            answer.extend([record.kind, record.number, len(record.body), len(record.name)])
+            answer.extend(record.name)
         return answer
 
     def answer_version(self, place, name_length, name):
@@ -108,3 +134,37 @@ class Desk:
             return [NO_RECORD]
         version = versions[place]
         return [len(versions), version.kind, version.number] + version.body
+
+    def answer_bytes(self, begin, most):
+        if begin < 0 or not 0 <= most <= MOST_SHOWN_BYTES:
+            return [OUT_OF_RANGE]
+        content = self.volume.content
+        return [len(content)] + content[begin:begin + most]
+
+    def answer_read(self, shut, length, key, data):
+        if not (0 <= shut <= 1 and 0 <= length <= MOST_BOOK_BYTES):
+            return [OUT_OF_RANGE]
+        if not begins_as_head(data, shut):
+            return [NO_HEAD]
+        volume = Volume(shut, salt_of(data), key)
+        if volume.content != data[:HEAD_BYTES]:
+            return [WRONG_HEAD_SUM]
+        why = take_entries(volume, data)
+        self.volume = volume
+        return [volume.history.entry_count(), len(volume.content), why]
+
+    def answer_alike(self, length, data):
+        if not 0 <= length <= MOST_BOOK_BYTES:
+            return [OUT_OF_RANGE]
+        common = common_length(self.volume.content, data)
+        return [common, self.volume.entries_within(common)]
+
+    def answer_sum(self, length, data):
+        if not 0 <= length <= MOST_SUMMED_BYTES:
+            return [OUT_OF_RANGE]
+        return [0] + sum_of(data)
+
+    def answer_state(self):
+        volume = self.volume
+        history = volume.history
+        return [0, len(volume.content), history.entry_count(), len(history.standing)] + volume.last_sum()

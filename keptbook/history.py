@@ -61,6 +61,10 @@ class History:
     def record(self, name):
         return self.standing.get(tuple(name))
 
+    # In the order of their names' bytes.
+    def records(self):
+        return [self.standing[name] for name in sorted(self.standing)]
+
     def versions(self, name):
         wanted = tuple(name)
         return [change for change in self.way(self.ends[-1]) if change.is_put and change.name == wanted]

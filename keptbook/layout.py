@@ -3,19 +3,44 @@
 from keptbook.cipher import BLOCK_BYTES, shut_from
 from keptbook.digest import sum_of
 
+SALT_BEGIN = 8
+SALT_END = 24
+HEAD_BYTES = 44
+# An entry's length and number, which are never shut.
+FRONT_BYTES = 8
 SUM_BYTES = 20
 PUT = 1
 DROP = 2
 BACK = 3
+BACK_BYTES = 5
 
 
 def low_first(number, count):
     return [(number >> (8 * place)) & 255 for place in range(count)]
 
 
+def from_low_first(data):
+    number = 0
+    for byte in reversed(data):
+        number = number * 256 + byte
+    return number
+
+
+def head_front(shut):
+    return [66, 79, 79, 75, 1, shut, 0, 0]
+
+
 def head_bytes(shut, salt, key):
-    front = [66, 79, 79, 75, 1, shut, 0, 0] + salt
+    front = head_front(shut) + salt
     return front + sum_of(front + key)
+
+
+def begins_as_head(data, shut):
+    return len(data) >= HEAD_BYTES and data[:SALT_BEGIN] == head_front(shut)
+
+
+def salt_of(head):
+    return head[SALT_BEGIN:SALT_END]
 
 
 def put_text(kind, name, body):
@@ -35,7 +60,7 @@ def blocks_length(plain_length):
 
 
 def entry_length(plain_length):
-    return 8 + blocks_length(plain_length) + SUM_BYTES
+    return FRONT_BYTES + blocks_length(plain_length) + SUM_BYTES
 
 
 # schedule: the book's key spread out, None if the book is not shut.

@@ -3,26 +3,15 @@
 import hashlib
 import unittest
 
-from keptbook.cipher import SWAPPED, shut_block, shut_from, spread_key
+from keptbook.cipher import SWAPPED, SWAPPED_BACK, open_block, open_from, shut_block, shut_from, spread_key
 from keptbook.digest import sum_of
-from keptbook.layout import low_first
+from keptbook.layout import from_low_first, low_first
 from keptbook.volume import Volume
-from tests.helper import KEY, SALT, as_bytes
+from tests.helper import BOX, KEY, SALT, Apart, as_bytes, back_plain, drop_plain, put_plain, shut_apart
 
 
 def from_hex(text):
     return list(bytes.fromhex(text))
-
-
-def product(left, right):
-    answer = 0
-    for bit in range(8):
-        if right >> bit & 1:
-            answer ^= left << bit
-    for bit in range(14, 7, -1):
-        if answer >> bit & 1:
-            answer ^= 0x11B << (bit - 8)
-    return answer
 
 
 class SumTest(unittest.TestCase):
@@ -60,13 +49,10 @@ class ShutTest(unittest.TestCase):
             from_hex("3925841d02dc09fbdc118597196a0b32"))
 
     def test_every_swapped_byte(self):
-        # FIPS 197, 5.1.1: the inverse, then the bits turned and added up.
-        for byte in range(256):
-            inverse = next((one for one in range(256) if product(byte, one) == 1), 0)
-            wanted = 0x63
-            for turn in range(5):
-                wanted ^= (inverse << turn | inverse >> (8 - turn)) & 255
-            self.assertEqual(SWAPPED[byte], wanted, byte)
+        self.assertEqual(list(SWAPPED), BOX)
+
+    def test_every_byte_swapped_back(self):
+        self.assertEqual([SWAPPED_BACK[byte] for byte in BOX], list(range(256)))
 
     def test_blocks_from_a_block(self):
         # NIST SP 800-38A, F.2.1.
@@ -78,8 +64,39 @@ class ShutTest(unittest.TestCase):
             "7649abac8119b246cee98e9b12e9197d5086cb9b507219ee95db113a917678b2"
             "73bed6b8e3c1743b7116e69e222295163ff1caa1681fac09120eca307586e1a7"))
 
+    def test_blocks_shut_apart(self):
+        for turn in range(20):
+            key = [(turn * 31 + k * k) % 256 for k in range(16)]
+            text = [(turn + 7 * k + k * k // 5) % 256 for k in range(16 * turn)]
+            self.assertEqual(shut_from(key[::-1], text, spread_key(key)), shut_apart(key[::-1], text, key), turn)
+
     def test_no_blocks(self):
         self.assertEqual(shut_from([0] * 16, [], spread_key(KEY)), [])
+
+
+class OpenTest(unittest.TestCase):
+    def test_example_of_the_document(self):
+        block = from_hex("69 C4 E0 D8 6A 7B 04 30 D8 CD B7 80 70 B4 C5 5A")
+        self.assertEqual(open_block(block, spread_key(KEY)), from_hex("00112233445566778899AABBCCDDEEFF"))
+
+    def test_blocks_from_a_block(self):
+        # NIST SP 800-38A, F.2.2.
+        schedule = spread_key(from_hex("2b7e151628aed2a6abf7158809cf4f3c"))
+        text = from_hex(
+            "7649abac8119b246cee98e9b12e9197d5086cb9b507219ee95db113a917678b2"
+            "73bed6b8e3c1743b7116e69e222295163ff1caa1681fac09120eca307586e1a7")
+        self.assertEqual(open_from(list(range(16)), text, schedule), from_hex(
+            "6bc1bee22e409f96e93d7e117393172aae2d8a571e03ac9c9eb76fac45af8e51"
+            "30c81c46a35ce411e5fbc1191a0a52eff69f2445df4f9b17ad2b417be66c3710"))
+
+    def test_blocks_shut_apart(self):
+        for turn in range(20):
+            key = [(turn * 131 + 3 * k * k) % 256 for k in range(16)]
+            text = [(turn + 11 * k + k * k // 3) % 256 for k in range(16 * turn)]
+            self.assertEqual(open_from(key[::-1], shut_apart(key[::-1], text, key), spread_key(key)), text, turn)
+
+    def test_no_blocks(self):
+        self.assertEqual(open_from([0] * 16, [], spread_key(KEY)), [])
 
 
 class LowFirstTest(unittest.TestCase):
@@ -87,6 +104,12 @@ class LowFirstTest(unittest.TestCase):
         self.assertEqual(low_first(0, 4), [0, 0, 0, 0])
         self.assertEqual(low_first(0x01020304, 4), [4, 3, 2, 1])
         self.assertEqual(low_first(65603, 4), [0x43, 0, 1, 0])
+
+    def test_number_of_bytes(self):
+        self.assertEqual(from_low_first([0, 0, 0, 0]), 0)
+        self.assertEqual(from_low_first([4, 3, 2, 1]), 0x01020304)
+        self.assertEqual(from_low_first([0x43, 0, 1, 0]), 65603)
+        self.assertEqual(from_low_first([255, 255, 255, 255]), 4294967295)
 
 
 class VolumeBytesTest(unittest.TestCase):
@@ -131,6 +154,13 @@ class VolumeBytesTest(unittest.TestCase):
 
     def test_shut_book(self):
         self.check(1, KEY, self.SHUT_ROWS)
+
+    def test_book_made_apart_is_the_same(self):
+        for shut, rows in ((0, self.OPEN_ROWS), (1, self.SHUT_ROWS)):
+            apart = Apart(shut).add(
+                put_plain(7, "ab", "hello world, this is a body"), put_plain(255, "z", "0123456789ab"),
+                drop_plain("ab"), back_plain(1))
+            self.assertEqual(bytes(apart.content).hex(), "".join(rows))
 
     def test_refused_call_writes_nothing(self):
         volume = Volume(0, SALT, [])

@@ -14,7 +14,7 @@ class ReadmeTest(unittest.TestCase):
         example = doctest.DocTestParser().get_doctest(
             README.read_text(encoding="utf-8"), {"answers": answers}, "README.md", str(README), 0)
         result = doctest.DocTestRunner(verbose=False).run(example)
-        self.assertEqual((result.failed, result.attempted), (0, 2))
+        self.assertEqual((result.failed, result.attempted), (0, 5))
 
 
 if __name__ == "__main__":
